@@ -1,0 +1,1 @@
+"""A choir's songs, whole: the calls are answered by choirparts.choir.answers."""
